@@ -1,0 +1,1 @@
+"""Composing pieces from themes and derived parts."""
